@@ -1,0 +1,1 @@
+"""Ships along a quay, each with a berth that it wishes."""
