@@ -1,8 +1,9 @@
-"""What is a number, a quay and wishes for it."""
+"""What is a number, a quay, wishes for it and a name."""
 
 from berthrow.errors import NoQuay, NoWishes
 
 MOST = 400
+LONGEST = 8
 
 
 def is_number(thing):
@@ -20,6 +21,16 @@ def is_from_to(low, high, thing):
 def is_row(thing):
     """Whether it is a list or a tuple."""
     return type(thing) is list or type(thing) is tuple
+
+
+def is_name(thing):
+    """Whether it is a name of a ship."""
+    if type(thing) is not str or not 1 <= len(thing) <= LONGEST:
+        return False
+    for sign in thing:
+        if not "a" <= sign <= "z":
+            return False
+    return True
 
 
 def check_quay(berths):

@@ -5,6 +5,14 @@ from berthrow.errors import NoCount, NoWishes, TooMany
 from berthrow.wishes import first_free
 
 
+def first_free_round(held, wish):
+    """The first berth from the wish on, round the quay, that is not held, or None."""
+    berth = first_free(held, wish)
+    if berth is None:
+        return first_free(held, 1)
+    return berth
+
+
 def placed_round(berths, wishes):
     """The berths of the ships."""
     check_wishes(berths, wishes)
@@ -13,9 +21,7 @@ def placed_round(berths, wishes):
     held = [False] * (berths + 1)
     found = []
     for wish in wishes:
-        berth = first_free(held, wish)
-        if berth is None:
-            berth = first_free(held, 1)
+        berth = first_free_round(held, wish)
         held[berth] = True
         found.append(berth)
     return found

@@ -1,6 +1,7 @@
 """Ships that come to a straight quay, each with its wish."""
 
-from berthrow.checks import check_wishes
+from berthrow.checks import MOST, check_wishes, is_row
+from berthrow.errors import NoWishes
 
 
 def first_free(held, wish):
@@ -52,3 +53,12 @@ def crowded(berths, wishes):
         if many > berths - berth + 1:
             return berth
     return None
+
+
+def check_full_row(wishes):
+    """Refuses what is no good wishes of as many ships as berths."""
+    # The length comes first: as a number of berths it would be refused as no quay.
+    if not is_row(wishes) or not 1 <= len(wishes) <= MOST:
+        raise NoWishes("a full row is a list or a tuple of 1 to 400 wishes")
+    if not is_good(len(wishes), wishes):
+        raise NoWishes("of a full row no ship goes away")

@@ -106,6 +106,61 @@ def no_wishes(berths):
     return out
 
 
+def in_rows(bad, rows):
+    """Lists and tuples of the rows, each with one of its places taken by what is bad there."""
+    out = []
+    for row in rows:
+        for at in range(len(row)):
+            for thing in bad:
+                changed = list(row)
+                changed[at] = thing
+                out = out + [changed, tuple(changed)]
+    return out
+
+
+def no_full_rows():
+    out = odd_things() + [0, 1, 400, [], (), [1] * 401, (1,) * 401, [1] * 1000]
+    out = out + in_rows(no_numbers() + [0, -1, 10 ** 60, -10 ** 60], [[1], [1, 1, 1]])
+    # A wish beyond the berths, and ships that go away.
+    out = out + [[2], (1, 3), [4, 1, 1], [2, 2], (3, 3, 1), [2, 2, 2], [1, 3, 3], [400, 400] + [1] * 398]
+    return out + [[1] * 399 + [True], [1] * 399 + [401], [2] * 400]
+
+
+def no_trees():
+    out = odd_things() + [0, 1, 400, [], (), [0] * 401, (0,) * 401, [0] * 1000]
+    out = out + in_rows(no_numbers() + [-1, -2, 10 ** 60, -10 ** 60], [[0], [0, 0, 0]])
+    # Knots beyond the last one.
+    out = out + [[2], (0, 3), [0, 0, 4], (4, 0, 0), [0] * 399 + [401], [0] * 399 + [False]]
+    # A knot below itself, two below each other, longer rings, and what hangs on them.
+    out = out + [[1], (0, 2), [1, 0], [2, 1], (0, 3, 2), [2, 3, 1], [0, 3, 4, 2], [2, 3, 1, 0, 3]]
+    return out + [[400] + list(range(1, 400)), [0] + [400] + list(range(2, 400))]
+
+
+def no_orders():
+    out = odd_things() + [0, 1, 400, [], (), list(range(401)), tuple(range(401)), [0] * 401]
+    out = out + in_rows(no_numbers() + [-1, -2, 10 ** 60, -10 ** 60], [[0], [0, 1, 2], [2, 1, 0]])
+    # One that is no ship of so many, and one that comes twice, so that another lacks.
+    out = out + [[1], (2,), [0, 2], (1, 2), [1, 2, 3], [0, 0], (1, 1), [0, 1, 1], [2, 0, 2], [0, True]]
+    return out + [list(range(1, 401)), list(range(399)) + [398], list(range(399)) + [400], [0] * 400]
+
+
+def no_names():
+    out = odd_things() + [0, 1, 97, [], ["a"], ("a",), {"a": 1}, {"a"}, b"a", bytearray(b"a")]
+    out = out + ["A", "Ab", "aB", "abcdefghi", "a" * 9, "a" * 1000, " ", "a b", " a", "a ", "a\n", "\n", "\na"]
+    return out + ["a1", "1a", "a-b", "a_b", "`", "{", "a{", "`a", "@", "[", ".", "a.", "abcdefg\n", "abcdefgH"]
+
+
+def no_berths(berths):
+    """Things that are no number from 1 to that of the berths."""
+    return no_numbers() + [0, -1, berths + 1, 401, 10 ** 60, -10 ** 60]
+
+
+def name_of(number):
+    """The name of the ship of that number, another one for each below 676, of two to eight letters."""
+    letters = "qwertyuiopasdfghjklzxcvbnm"
+    return (letters[number % 26] + letters[number // 26 % 26] + "abcdef")[:number % 7 + 2]
+
+
 def told(function, *args):
     """What is told of a call: the refusal's class, or the answer with its class."""
     try:
