@@ -14,7 +14,8 @@ def tree_of(wishes):
     come_to = [0]
     tree = [0] * len(wishes)
     for berth in range(1, len(wishes) + 1):
-        # It is come to by now: good wishes leave no berth ahead of this one free.
+        # So many are come to by now: each berth ahead is taken by a ship that
+        # wishes none behind it.
         above = come_to[berth - 1]
         for knot in wishing[berth]:
             tree[knot - 1] = above

@@ -155,7 +155,9 @@ class TestNoText(unittest.TestCase):
 
     def test_blanks(self):
         for head in HEADS.values():
-            for row in [f" {head} 5", f"{head} 5 ", f"{head}  5", f"{head}5", f"{head}\t5", f"{head} 5 5", f"{head} 5 a"]:
+            for row in [
+                f" {head} 5", f"{head} 5 ", f"{head}  5", f"{head}5", f"{head}\t5", f"{head} 5 5", f"{head} 5 a",
+            ]:
                 self.refused(NoText, row + "\n")
                 self.refused(NoText, row + "\na 1\n")
             for row in [" a 1", "a 1 ", "a  1", "a1", "a\t1", "a 1 1", "a 1 b", "a", "1", "a ", " 1", " ", "", "1 a"]:
